@@ -1,0 +1,1 @@
+"""Storejudge: histories of many hands at one store, judged."""
