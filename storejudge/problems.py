@@ -104,10 +104,26 @@ def marked(things):
     return dict([(thing, True) for thing in things])
 
 
-def ways_of(problem):
+def check_problem(problem):
     if not is_problem(problem):
         raise NoProblem("this is no problem")
+
+
+def ways_of(problem):
+    check_problem(problem)
     return Ways(problem)
+
+
+def with_pair(problem, x, y):
+    """The problem with the pair (x, y) more, behind all others."""
+    return (problem[0], problem[1], problem[2] + ((x, y),), problem[3])
+
+
+def with_word(problem, x, word):
+    """The problem with another word for its item x."""
+    items = problem[1]
+    item = (items[x][0], items[x][1], word)
+    return (problem[0], items[:x] + (item,) + items[x + 1:], problem[2], problem[3])
 
 
 def may_come(problem, placed):

@@ -30,11 +30,14 @@ def nodes_behind(ways, node):
 
 
 def stands_fault(problem, nodes):
-    ways = ways_of(problem)
+    return nodes_fault(ways_of(problem), nodes)
+
+
+def nodes_fault(ways, nodes):
     if not isinstance(nodes, (list, tuple)):
         return ("form", 0)
     for k, thing in enumerate(nodes):
-        if not is_node(thing, len(problem[1])):
+        if not is_node(thing, len(ways.listed)):
             return ("form", k)
     listed = marked(nodes)
     if first_node(ways) not in listed:
@@ -49,7 +52,10 @@ def stands_fault(problem, nodes):
 
 
 def search(problem, most):
-    ways = ways_of(problem)
+    return searched(ways_of(problem), most)
+
+
+def searched(ways, most):
     if is_last(ways, first_node(ways)):
         return ("row", ())
     seen = {first_node(ways): True}

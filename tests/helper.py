@@ -1,6 +1,10 @@
 """What several tests need: odd things of every kind, and samples of each step with its answers."""
 
 import copy
+import itertools
+
+from storejudge.store import done
+from storejudge.touches import leaves, needs
 
 ODD_THINGS = [
     None, True, False, 0, 7, -1, 10 ** 39, "", "read", "refused", b"read",
@@ -115,3 +119,118 @@ def random_problem(chance):
             apart += ((x, y, chance.choice([z for z in numbers if z not in (x, y)])),)
     first = (chance.randrange(2), chance.randrange(2)) + (0,) * 6
     return (first, items, before, apart)
+
+
+def random_tight_problem(chance, most=4):
+    """Writes and reads of few values, with many pairs and triples, so that every reason of a ring is come to."""
+    items = []
+    for _ in range(chance.randrange(2, most + 1)):
+        key, value = chance.choice([0, 0, 1]), chance.randrange(4)
+        step, answer = chance.choice([
+            (("write", key, value), ("done",)), (("write", key, value), ("done",)), (("read", key), ("got", value)),
+            (("read", key), ("got", value)), (("add", key, 1), ("got", value)), (("add", key, 1), None),
+            (("swap", key, value, 3), ("yes",)), (("lay", ((0, value), (1, 2))), None),
+            (("deal", (("read", 0), ("write", 1, value))), ("each", (("got", value), ("done",)))),
+        ])
+        items.append((step, answer, chance.choice(["must"] * 6 + ["may", "out"])))
+    numbers = range(len(items))
+    musts = [x for x in numbers if items[x][2] == "must"]
+    before = tuple(tuple(chance.sample(numbers, 2)) for _ in range(chance.randrange(4)))
+    apart = ()
+    if len(items) > 2 and len(musts) > 1:
+        for _ in range(chance.randrange(3)):
+            x, y = chance.sample(musts, 2)
+            apart += ((x, y, chance.choice([z for z in numbers if z not in (x, y)])),)
+    first = (chance.randrange(3), chance.randrange(3)) + (0,) * 6
+    return (first, tuple(items), before, apart)
+
+
+def is_row(problem, row):
+    """[13], word by word."""
+    first, items, before, apart = problem
+    if len(set(row)) < len(row) or any(items[x][2] == "out" for x in row):
+        return False
+    if any(item[2] == "must" and x not in row for x, item in enumerate(items)):
+        return False
+    place = {x: k for k, x in enumerate(row)}
+    if any(x in place and y in place and place[x] > place[y] for x, y in before):
+        return False
+    if any(z in place and place[x] < place[z] < place[y] for x, y, z in apart):
+        return False
+    stand = first
+    for x in row:
+        answer, stand = done(stand, items[x][0])
+        if items[x][1] not in (None, answer):
+            return False
+    return True
+
+
+def all_rows(problem):
+    """All rows, by going through all orders of all lots of items."""
+    numbers = [x for x, item in enumerate(problem[1]) if item[2] != "out"]
+    rows = []
+    for length in range(len(numbers) + 1):
+        rows += [row for row in itertools.permutations(numbers, length) if is_row(problem, row)]
+    return rows
+
+
+def write(value, word="must", key=0):
+    return (("write", key, value), ("done",), word)
+
+
+def read(value, word="must", key=0):
+    return (("read", key), ("got", value), word)
+
+
+def all_whys(count, keys):
+    """All reasons by their form, on these keys."""
+    numbers = range(count)
+    whys = [("told",)]
+    whys += [(word, x) for word in ("through", "apart") for x in numbers]
+    whys += [(word, key) for word in ("only", "first") for key in keys]
+    whys += [(word, key, x) for word in ("late", "early") for key in keys for x in numbers]
+    return whys
+
+
+def all_steps(count, keys):
+    return list(itertools.product(range(count), range(count), all_whys(count, keys)))
+
+
+def right_by_the_words(problem, ahead, step):
+    """[22], word by word: whether the step is right behind the ones ahead."""
+    first, items, before, apart = problem
+    x, y, why = step
+    pairs = [(a, b) for a, b, _ in ahead]
+    standing = [a for a, item in enumerate(items) if item[2] == "must"] + [a for pair in pairs for a in pair]
+
+    def may_leave(key, value, besides):
+        lot = [a for a, item in enumerate(items) if item[2] != "out" and a != besides]
+        return [a for a in lot if leaves(items[a], key) in (("is", value), ("any",))]
+
+    def leaves_another(a, key, value):
+        return leaves(items[a], key)[0] == "is" and leaves(items[a], key) != ("is", value)
+
+    if why[0] == "through":
+        return (x, why[1]) in pairs and (why[1], y) in pairs
+    if x == y:
+        return False
+    if why[0] == "told":
+        return (x, y) in before and x in standing and y in standing
+    if why[0] == "apart":
+        z = why[1]
+        return ((z, x, y) in apart and (z, y) in pairs) or ((y, z, x) in apart and (x, z) in pairs)
+    key = why[1]
+    if why[0] == "only":
+        v = needs(items[y], key)
+        return y in standing and v is not None and first[key] != v and may_leave(key, v, y) == [x]
+    if why[0] == "first":
+        v = needs(items[x], key)
+        return (x in standing and v is not None and may_leave(key, v, x) == []
+                and y in standing and leaves_another(y, key, v))
+    if why[0] == "late":
+        v = needs(items[x], key)
+        return (x in standing and v is not None and may_leave(key, v, x) == [why[2]]
+                and (why[2], y) in pairs and leaves_another(y, key, v))
+    v = needs(items[why[2]], key)
+    return (why[2] in standing and v is not None and may_leave(key, v, why[2]) == [y]
+            and (x, why[2]) in pairs and leaves_another(x, key, v))

@@ -2,30 +2,10 @@ import itertools
 import random
 import unittest
 
-from helper import NO_PROBLEMS, ODD_THINGS, random_problem, told_alike
+from helper import NO_PROBLEMS, ODD_THINGS, is_row, random_problem, told_alike
 from storejudge.errors import NoProblem
 from storejudge.rows import row_fault
-from storejudge.store import FIRST, done
-
-
-def is_row(problem, row):
-    """[13], word by word."""
-    first, items, before, apart = problem
-    if len(set(row)) < len(row) or any(items[x][2] == "out" for x in row):
-        return False
-    if any(item[2] == "must" and x not in row for x, item in enumerate(items)):
-        return False
-    place = {x: k for k, x in enumerate(row)}
-    if any(x in place and y in place and place[x] > place[y] for x, y in before):
-        return False
-    if any(z in place and place[x] < place[z] < place[y] for x, y, z in apart):
-        return False
-    stand = first
-    for x in row:
-        answer, stand = done(stand, items[x][0])
-        if items[x][1] not in (None, answer):
-            return False
-    return True
+from storejudge.store import FIRST
 
 
 WRITE = (("write", 0, 1), ("done",), "must")

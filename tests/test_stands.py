@@ -2,7 +2,7 @@ import itertools
 import random
 import unittest
 
-from helper import NO_PROBLEMS, ODD_THINGS, own_list, random_problem, told_alike
+from helper import NO_PROBLEMS, ODD_THINGS, all_rows, own_list, random_problem, told_alike
 from storejudge.errors import NoProblem
 from storejudge.problems import behind, may_come
 from storejudge.rows import row_fault
@@ -37,14 +37,6 @@ def all_nodes(problem):
             if stand is not None and after not in nodes:
                 nodes.append(after)
     return nodes
-
-
-def all_rows(problem):
-    numbers = range(len(problem[1]))
-    rows = []
-    for length in range(len(numbers) + 1):
-        rows += [row for row in itertools.permutations(numbers, length) if row_fault(problem, row) is None]
-    return rows
 
 
 def end_of(problem, row):
