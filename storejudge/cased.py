@@ -15,16 +15,16 @@ def by_cases(problem, deep, most):
     told = forced_by(problem)
     if told[0] == "ring":
         return ("paper", told)
-    case = least_case(problem, told[1]) if deep > 0 else None
-    if case is None:
+    parting = least_parting(problem, told[1]) if deep > 0 else None
+    if parting is None:
         return by_stands(problem, most)
     papers = []
-    for part in parted(problem, case):
+    for part in parted(problem, parting):
         found = by_cases(part, deep - 1, most)
         if found[0] != "paper":
             return found
         papers.append(found[1])
-    return ("paper", case + tuple(papers))
+    return ("paper", parting + tuple(papers))
 
 
 def by_stands(problem, most):
@@ -32,7 +32,7 @@ def by_stands(problem, most):
     return ("paper", told) if told[0] == "stands" else told
 
 
-def least_case(problem, pairs):
+def least_parting(problem, pairs):
     """By what the problem is to be parted, None where there is nothing: its forced pairs are handed in."""
     items = problem[1]
     mays = [x for x, item in enumerate(items) if item[2] == "may"]

@@ -54,8 +54,10 @@ def parts_rightly(problem, paper):
     return all([problem[1][x][2] == word for x in told])
 
 
-def parted(problem, case):
-    """The problems of a case's one and two, the case told as ("cases", x, y) or ("inout", x)."""
-    if case[0] == "cases":
-        return (with_pair(problem, case[1], case[2]), with_pair(problem, case[2], case[1]))
-    return (with_word(problem, case[1], "must"), with_word(problem, case[1], "out"))
+def parted(problem, parting):
+    """The problems of a paper's one and two, what parts them told as ("cases", x, y) or ("inout", x)."""
+    x = parting[1]
+    if parting[0] == "cases":
+        y = parting[2]
+        return (with_pair(problem, x, y), with_pair(problem, y, x))
+    return (with_word(problem, x, "must"), with_word(problem, x, "out"))

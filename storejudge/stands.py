@@ -81,10 +81,15 @@ def searched(ways, most):
 
 
 def waiting(ways, node):
-    """The nodes behind a node, the one to go to first at the end: musts, the least first, then others."""
-    # A must has to come in any case; another item may spoil the row and is not needed at once.
+    """The nodes behind a node, the one to go to first at the end."""
+    # A must has to come in any case, another item may spoil the row; what changes nothing spoils the least.
     pairs = nodes_behind(ways, node)
-    return sorted(pairs, key=lambda pair: (ways.listed[pair[0]][2] != "must", pair[0]), reverse=True)
+    return sorted(pairs, key=lambda pair: urgency(ways, node, pair), reverse=True)
+
+
+def urgency(ways, node, pair):
+    """What is to be gone to first among nodes behind a node: the less, the sooner."""
+    return (ways.listed[pair[0]][2] != "must", pair[1][1] != node[1], pair[0])
 
 
 def ends(problem, most):

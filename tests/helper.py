@@ -3,6 +3,8 @@
 import copy
 import itertools
 
+from storejudge.problems import behind, may_come
+from storejudge.promises import PROMISES
 from storejudge.store import done
 from storejudge.touches import leaves, needs
 
@@ -165,6 +167,18 @@ def is_row(problem, row):
     return True
 
 
+def all_nodes(problem):
+    """All nodes that can be come to, by way of all rows and their beginnings."""
+    nodes = [((), problem[0])]
+    for node in nodes:
+        for x in may_come(problem, node[0]):
+            stand = behind(problem, node[1], x)
+            after = (tuple(sorted(node[0] + (x,))), stand)
+            if stand is not None and after not in nodes:
+                nodes.append(after)
+    return nodes
+
+
 def all_rows(problem):
     """All rows, by going through all orders of all lots of items."""
     numbers = [x for x, item in enumerate(problem[1]) if item[2] != "out"]
@@ -234,3 +248,89 @@ def right_by_the_words(problem, ahead, step):
     v = needs(items[why[2]], key)
     return (why[2] in standing and v is not None and may_leave(key, v, why[2]) == [y]
             and (x, why[2]) in pairs and leaves_another(x, key, v))
+
+
+def random_call(chance, keys=2, values=3):
+    def single():
+        key, value = chance.randrange(keys), chance.randrange(values)
+        return chance.choice([
+            ("read", key), ("read", key), ("write", key, value), ("write", key, value), ("add", key, 1),
+            ("swap", key, value, chance.randrange(values)),
+        ])
+
+    if chance.randrange(4) > 0:
+        return single()
+    low = chance.randrange(keys)
+    return chance.choice([
+        ("span", low, chance.randrange(low, keys) + 1),
+        ("deal", tuple(single() for _ in range(chance.randrange(1, 4)))),
+        ("deal", tuple(("write", chance.randrange(keys), chance.randrange(values)) for _ in range(2))),
+    ])
+
+
+def random_history(chance, hands=3, deeds=6, wrong=0, **kinds):
+    """What a plain store did for some hands, deeds listed in any order; wrong: so many answers are made up."""
+    stand, time, told, busy = (0,) * 8, 0, [], {}
+    while len(told) < deeds or (busy and chance.randrange(8) > 0):
+        time += chance.randrange(1, 4)
+        hand = chance.randrange(hands)
+        if hand not in busy:
+            if len(told) < deeds:
+                busy[hand] = len(told)
+                told.append([hand, time, None, random_call(chance, **kinds), None])
+        elif len(told[busy[hand]]) == 5 and chance.randrange(12) > 0:
+            answer, stand = done(stand, told[busy[hand]][3])
+            told[busy[hand]].append(answer)
+        else:
+            deed = told[busy.pop(hand)]
+            deed[2] = time
+            deed[4] = deed[5] if len(deed) == 6 else ("refused",)
+    for deed in chance.sample(told, min(wrong, len(told))):
+        if deed[2] is not None:
+            deed[4] = random_answer(chance, deed[3])
+    chance.shuffle(told)
+    return tuple(tuple(deed[:5]) for deed in told)
+
+
+def did_write(hand, begin, end, value, key=0):
+    return (hand, begin, end, ("write", key, value), None if end is None else ("done",))
+
+
+def did_read(hand, begin, end, value, key=0):
+    return (hand, begin, end, ("read", key), ("got", value))
+
+
+def did_add(hand, begin, end, value, key=0):
+    return (hand, begin, end, ("add", key, 1), ("got", value))
+
+
+# What breaks which promise: each history with the promises that it keeps.
+KEEPS = [
+    ((), PROMISES),
+    ((did_write(0, 0, 1, 5), did_read(1, 2, 3, 5)), PROMISES),
+    # A stale read.
+    ((did_write(0, 0, 1, 5), did_read(1, 2, 3, 0)), ("row", "any", "snap", "stand", "hand", "kept")),
+    # A hand does not see what it wrote.
+    ((did_write(0, 0, 1, 5), did_read(0, 2, 3, 0)), ("any", "snap", "stand", "kept")),
+    # A value that nobody wrote.
+    ((did_write(0, 0, 1, 5), did_read(1, 2, 3, 9)), ("kept",)),
+    # Two hands see two writes in either order.
+    ((did_write(0, 0, 1, 5), did_write(1, 2, 3, 6), did_read(2, 4, 5, 5), did_read(2, 6, 7, 6),
+      did_read(3, 8, 9, 6), did_read(3, 10, 11, 5)),
+     ("hand", "kept", "any", "snap", "stand")),
+    # An add is lost: both got 1.
+    ((did_add(0, 0, 5, 1), did_add(1, 1, 6, 1)), ("stand", "hand")),
+    # Each reads what the other one is about to write: skewed, but a snap.
+    (((0, 0, 9, ("deal", (("read", 0), ("write", 1, 1))), ("each", (("got", 0), ("done",)))),
+      (1, 1, 10, ("deal", (("read", 1), ("write", 0, 1))), ("each", (("got", 0), ("done",))))),
+     ("snap", "stand", "thing", "kept", "hand")),
+    # Two writes are seen by two spans, each without the other one.
+    ((did_write(0, 0, 11, 1), did_write(1, 1, 12, 1, 1), (2, 2, 13, ("span", 0, 2), ("all", (1, 0))),
+      (3, 3, 14, ("span", 0, 2), ("all", (0, 1)))),
+     ("hand", "thing", "kept")),
+    # One key is seen ahead of both writes, the other one behind them; then so, but all at one time.
+    ((did_write(0, 0, 1, 5), did_write(0, 2, 3, 5, 1), (1, 4, 9, ("span", 0, 2), ("all", (0, 5)))),
+     ("any", "snap", "stand", "kept")),
+    ((did_write(0, 1, 2, 5), did_write(0, 3, 4, 5, 1), (1, 0, 9, ("span", 0, 2), ("all", (0, 5)))),
+     ("any", "snap", "stand", "thing", "kept")),
+]

@@ -86,6 +86,23 @@ class Forced(unittest.TestCase):
         self.assertIn((1, 0, ("only", 0)), steps)
         self.pairs([], (FIRST, (write(6), write(5, "may")), ((0, 1), (1, 0)), ()))
 
+    def test_a_may_that_must_stand_between(self):
+        # The key has at first what the read got; behind item 2 only item 1 can have brought it back.
+        items = (read(0, key=3), write(0, "may", key=3), write(6, key=3))
+        self.pairs([(2, 0), (2, 1)], (FIRST, items, ((2, 0),), ()))
+        steps = self.ring((FIRST, items, ((1, 2), (2, 0)), ()))
+        self.assertIn((2, 1, ("early", 3, 0)), steps)
+
+    def test_a_ring_by_each_reason(self):
+        late = (FIRST, (read(5, key=3), write(5, key=3), write(6, key=3)), ((1, 2), (2, 0)), ())
+        first = (FIRST, (read(0, key=3), write(5, key=3)), ((1, 0),), ())
+        only = (FIRST, (read(5, key=3), write(5, key=3)), ((0, 1),), ())
+        writes = tuple(write(k) for k in range(4))
+        behind = (FIRST, writes, ((0, 2), (2, 3), (3, 1)), ((0, 1, 2),))
+        ahead = (FIRST, writes, ((2, 1), (0, 3), (3, 2)), ((0, 1, 2),))
+        for problem in (late, first, only, behind, ahead):
+            self.ring(problem)
+
     def test_a_ring_alone_is_told(self):
         items = tuple(write(k) for k in range(120))
         before = tuple((x, y) for x in range(60) for y in range(x + 1, 60))

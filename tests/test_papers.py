@@ -18,7 +18,8 @@ NO_ROW = (FIRST, (write(1), write(2), read(1), read(2), read(1)), ((2, 3), (3, 4
 READ_NINE = (FIRST, (read(9), write(1), write(2), write(3, "may"), write(9, "out")), (), ())
 
 NO_PAPERS = ODD_THINGS + [
-    ("stands",), ("stands", [], []), ["stands", []], ("Stands", []), (b"stands", []), ("row", ()), ("more",), ("paper", []),
+    ("stands",), ("stands", [], []), ["stands", []], ("Stands", []), (b"stands", []),
+    ("row", ()), ("more",), ("paper", []),
     ("ring",), ("ring", [], 0), ["ring", []], ("rings", []),
     ("cases", 0, 1, ("ring", [])), ("cases", 0, 1), ("cases",), ("cases", 0, 1, ("ring", []), ("ring", []), ()),
     ["cases", 0, 1, ("ring", []), ("ring", [])],

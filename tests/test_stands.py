@@ -2,9 +2,9 @@ import itertools
 import random
 import unittest
 
-from helper import NO_PROBLEMS, ODD_THINGS, all_rows, own_list, random_problem, told_alike
+from helper import NO_PROBLEMS, ODD_THINGS, all_nodes, all_rows, own_list, random_problem, told_alike
 from storejudge.errors import NoProblem
-from storejudge.problems import behind, may_come
+from storejudge.problems import behind
 from storejudge.rows import row_fault
 from storejudge.stands import ends, search, stands_fault
 from storejudge.store import FIRST
@@ -25,18 +25,6 @@ def read(value, word="must"):
 # No row: the read would have to see what nobody wrote.
 NO_ROW = (FIRST, (write(1), write(2), read(3)), ((0, 1),), ())
 NO_ROW_NODES = [START, ((0,), ONE), ((0, 1), TWO)]
-
-
-def all_nodes(problem):
-    """All nodes that can be come to, by way of all rows and their beginnings."""
-    nodes = [((), problem[0])]
-    for node in nodes:
-        for x in may_come(problem, node[0]):
-            stand = behind(problem, node[1], x)
-            after = (tuple(sorted(node[0] + (x,))), stand)
-            if stand is not None and after not in nodes:
-                nodes.append(after)
-    return nodes
 
 
 def end_of(problem, row):
