@@ -93,15 +93,33 @@ def urgency(ways, node, pair):
 
 
 def ends(problem, most):
-    ways = ways_of(problem)
-    seen = {first_node(ways): True}
+    found = rows_to_ends(ways_of(problem), most)
+    return None if found is None else sorted(found)
+
+
+def rows_to_ends(ways, most):
+    """Each stand to which rows come, with one such row; None where more than most nodes can be come to."""
+    came = {first_node(ways): None}
     todo = [first_node(ways)]
     while len(todo) > 0:
-        if len(seen) > most:
+        if len(came) > most:
             return None
         node = todo.pop()
         for x, after in nodes_behind(ways, node):
-            if after not in seen:
-                seen[after] = True
+            if after not in came:
+                came[after] = (x, node)
                 todo.append(after)
-    return sorted(set([come_to[1] for come_to in seen if is_last(ways, come_to)]))
+    found = {}
+    for node in came:
+        if is_last(ways, node) and node[1] not in found:
+            found[node[1]] = way_to(came, node)
+    return found
+
+
+def way_to(came, node):
+    """The items that led to a node, by what each node was come to from."""
+    way = []
+    while came[node] is not None:
+        way.append(came[node][0])
+        node = came[node][1]
+    return tuple(reversed(way))

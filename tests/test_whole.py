@@ -4,10 +4,17 @@ import random
 import unittest
 
 from helper import KEEPS, random_history
+from storejudge.asides import aside
 from storejudge.carried import implies
+from storejudge.groups import groups, part
 from storejudge.histories import look_over
+from storejudge.joins import joined
+from storejudge.leasts import least
 from storejudge.promises import PROMISES, problems_of
-from storejudge.stands import search
+from storejudge.quiets import in_pieces, pieces
+from storejudge.rows import row_fault
+from storejudge.stands import ends, search
+from storejudge.store import FIRST
 from storejudge.verdicts import judged, verdict_fault
 
 
@@ -72,6 +79,48 @@ class Whole(unittest.TestCase):
                 if not implies(strong, weak):
                     shown = [one for one in told if one[strong] == "kept" and one[weak] == "broken"]
                     self.assertTrue(shown, (strong, weak))
+
+    def test_kept_just_where_each_group_keeps_it(self):
+        seen = {}
+        for history in histories():
+            parts = [judged(part(history, numbers), "real", 5000) for _, numbers in groups(history)]
+            whole = judged(history, "real", 5000)[0]
+            kept = all(told[0] == "kept" for told in parts)
+            self.assertEqual(whole, "kept" if kept else "broken", history)
+            if kept:
+                row = joined(history, [told[1][0] for told in parts])
+                self.assertIsNone(row_fault(problems_of(history, "real")[0][1], row))
+            seen[(whole, min(len(parts), 2))] = True
+        self.assertTrue({("kept", 2), ("broken", 2), ("kept", 1), ("broken", 1)} <= set(seen))
+
+    def test_kept_just_where_the_pieces_are_one_behind_the_other(self):
+        seen = {}
+        for history in histories():
+            stands = [FIRST]
+            for numbers in pieces(history):
+                problem = problems_of(part(history, numbers), "real")[0][1]
+                stands = sorted({end for stand in stands for end in ends((stand,) + problem[1:], 5000)})
+            whole = judged(history, "real", 5000)[0]
+            self.assertEqual(whole, "kept" if stands else "broken", history)
+            told = in_pieces(history, 5000)
+            self.assertEqual(told[0], whole)
+            if whole == "kept":
+                self.assertIsNone(row_fault(problems_of(history, "real")[0][1], told[1]))
+            seen[(whole, min(len(pieces(history)), 2))] = True
+        self.assertTrue({("kept", 2), ("broken", 2), ("kept", 1), ("broken", 1)} <= set(seen))
+
+    def test_a_least_lot_where_there_is_no_row(self):
+        for history in histories():
+            for promise in PROMISES:
+                for _, problem in problems_of(history, promise):
+                    told = least(problem, 5000)
+                    self.assertEqual(told[0] == "row", search(problem, 5000)[0] == "row")
+                    if told[0] == "least":
+                        musts = [x for x, item in enumerate(problem[1]) if item[2] == "must"]
+                        freed = aside(problem, [x for x in musts if x not in told[1]])
+                        self.assertEqual(search(freed, 5000)[0], "stands")
+                        for one, row in zip(told[1], told[2]):
+                            self.assertIsNone(row_fault(aside(freed, (one,)), row))
 
     def test_the_same_promises_are_kept(self):
         chance = random.Random(33)
