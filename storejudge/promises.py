@@ -25,6 +25,11 @@ def frames_of(history, promise):
     """For each problem of the promise a tuple of its name, itself, and the deeds of its items."""
     look_over(history)
     check_promise(promise)
+    return framed(history, promise)
+
+
+def framed(history, promise):
+    """As frames_of, of what is known to be a history and a promise."""
     if promise in ("real", "row", "any"):
         return [frame(history, promise, None, whole_entries(history))]
     if promise in ("snap", "stand"):

@@ -35,6 +35,7 @@ BANNED_WORDS = re.compile(
 )
 BANNED_NAMES = {"register", "mro", "elements", "open", "input", "version_info", "with_traceback", "add_note"}
 DUNDERS = {"__init__", "__eq__", "__repr__", "__str__", "__len__"}
+CHANGES = {"append", "clear", "extend", "insert", "pop", "remove", "reverse", "setdefault", "update"}
 LAZY = {"zip", "enumerate", "reversed", "range", "items", "keys", "values"}
 WALKERS = {"list", "tuple", "dict", "sorted", "sum", "any", "all", "enumerate", "zip", "min", "max"}
 
@@ -166,6 +167,61 @@ class Forms(unittest.TestCase):
             for node in ast.walk(tree):
                 if isinstance(node, ast.Call) and called(node) in ("set", "frozenset") or isinstance(node, ast.Set):
                     self.assertIn(node, right, (name, node.lineno))
+
+
+READING = {"len", "list", "dict", "tuple", "sorted", "sum", "min", "max", "any", "all", "enumerate", "zip"}
+READING_METHODS = {"get", "items", "keys", "values", "index", "count", "copy"}
+
+
+def kept_at_the_top():
+    """The names of all lists and dicts of files' tops."""
+    return {
+        node.targets[0].id for _, tree in trees() for node in tree.body
+        if isinstance(node, ast.Assign) and isinstance(node.value, (ast.List, ast.Dict))
+    }
+
+
+def is_read_only(parent, node):
+    if isinstance(parent, ast.Subscript):
+        return parent.value is node and isinstance(parent.ctx, ast.Load)
+    if isinstance(parent, ast.Call):
+        return node in parent.args and isinstance(parent.func, ast.Name) and parent.func.id in READING
+    if isinstance(parent, ast.Attribute):
+        return parent.attr in READING_METHODS
+    if isinstance(parent, (ast.For, ast.comprehension)):
+        return parent.iter is node
+    return isinstance(parent, ast.Compare)
+
+
+class Kept(unittest.TestCase):
+    def test_lists_and_dicts_of_the_top_are_only_read(self):
+        kept = kept_at_the_top()
+        self.assertTrue(kept)
+        for name, tree in trees():
+            parents = {child: node for node in ast.walk(tree) for child in ast.iter_child_nodes(node)}
+            for node, parent in parents.items():
+                if isinstance(node, ast.Name) and node.id in kept and isinstance(node.ctx, ast.Load):
+                    self.assertTrue(is_read_only(parent, node), (name, node.lineno))
+
+    def test_lists_and_dicts_of_the_top_hold_none(self):
+        for name, tree in trees():
+            for node in tree.body:
+                if isinstance(node, ast.Assign) and isinstance(node.value, (ast.List, ast.Dict)):
+                    inner = [part for part in ast.walk(node.value) if isinstance(part, (ast.List, ast.Dict))]
+                    self.assertEqual(len(inner), 1, name)
+
+    def test_what_a_loop_walks_is_not_changed_in_it(self):
+        for name, tree in trees():
+            for loop in ast.walk(tree):
+                if not isinstance(loop, ast.For):
+                    continue
+                named = [part for part in ast.walk(loop.iter) if isinstance(part, (ast.Name, ast.Attribute))]
+                walked = {ast.unparse(part) for part in named}
+                for node in ast.walk(ast.Module(body=loop.body, type_ignores=[])):
+                    if isinstance(node, ast.Attribute) and node.attr in CHANGES:
+                        self.assertNotIn(ast.unparse(node.value), walked, (name, node.lineno))
+                    if isinstance(node, ast.Subscript) and isinstance(node.ctx, ast.Store):
+                        self.assertNotIn(ast.unparse(node.value), walked, (name, node.lineno))
 
 
 class Names(unittest.TestCase):

@@ -1,20 +1,23 @@
-"""[3]: what holds of the whole, as far as it is built."""
+"""[3]: what holds of the whole."""
 
 import random
 import unittest
 
 from helper import KEEPS, random_history
 from storejudge.asides import aside
-from storejudge.carried import implies
+from storejudge.carried import carried, implies
 from storejudge.groups import groups, part
-from storejudge.histories import look_over
+from storejudge.histories import look_over, of_hand
 from storejudge.joins import joined
 from storejudge.leasts import least
+from storejudge.makers import make
 from storejudge.promises import PROMISES, problems_of
 from storejudge.quiets import in_pieces, pieces
 from storejudge.rows import row_fault
 from storejudge.stands import ends, search
 from storejudge.store import FIRST
+from storejudge.stores import promise_of
+from storejudge.texts import read_history, read_problem, show_history, show_problem
 from storejudge.verdicts import judged, verdict_fault
 
 
@@ -121,6 +124,24 @@ class Whole(unittest.TestCase):
                         self.assertEqual(search(freed, 5000)[0], "stands")
                         for one, row in zip(told[1], told[2]):
                             self.assertIsNone(row_fault(aside(freed, (one,)), row))
+
+    def test_what_a_store_does_keeps_its_promise(self):
+        chance = random.Random(333)
+        for history in histories():
+            plans = tuple(tuple(history[number][3] for number in of_hand(history, hand)) for hand in range(6))
+            for store in ("whole", "late", "looks", "torn", "copies"):
+                promise = promise_of(store)
+                made, rows = make(store, plans, [chance.randrange(10 ** 9) for _ in range(chance.randrange(60))])
+                self.assertIsNone(verdict_fault(made, promise, ("kept", rows)))
+                self.assertEqual(judged(made, promise, 5000)[0], "kept")
+                for weak in PROMISES:
+                    if implies(promise, weak):
+                        less = carried(made, promise, rows, weak)
+                        self.assertIsNone(verdict_fault(made, weak, ("kept", less)))
+                        self.assertEqual(judged(made, weak, 5000)[0], "kept")
+                self.assertEqual(read_history(show_history(made)), made)
+                for _, problem in problems_of(made, promise):
+                    self.assertEqual(read_problem(show_problem(problem)), problem)
 
     def test_the_same_promises_are_kept(self):
         chance = random.Random(33)
